@@ -1,0 +1,1 @@
+"""Oneforall: one answers for all."""
