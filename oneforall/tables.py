@@ -1,17 +1,13 @@
 """Tables: who may be beside a member, and for how long it may be silent then."""
 
-from oneforall.pairs import COMING, next_pair, speaks
+from oneforall.graphs import all_following, greatest_numbers
+from oneforall.pairs import COMING, hearings, next_pair, some_speak, speaks
 
 
 def moves(rule, pair, asked, answered):
     """Return the pairs in which a member may be behind a beat, whatever it hears and loses."""
-    askings = [asked]
-    if asked and pair[1] < rule.losses:
-        askings = [True, False]
-    answers = [False]
-    if answered:
-        answers = [True, False]
-    return [next_pair(rule, pair, asked, asking, answer) for asking in askings for answer in answers]
+    return [next_pair(rule, pair, asked, asking, answer)
+            for asking, answer in hearings(rule, pair, asked, answered)]
 
 
 def pairs_behind(rule, pairs, asked, answered):
@@ -22,11 +18,6 @@ def pairs_behind(rule, pairs, asked, answered):
 def with_coming(pairs):
     """Return the ascending list of these pairs and of that of a member that comes."""
     return sorted(set(list(pairs) + [COMING]))
-
-
-def some_speak(rule, pairs):
-    """Tell whether some member with one of these pairs answers."""
-    return any([speaks(rule, pair) for pair in pairs])
 
 
 def company(rule):
@@ -76,27 +67,43 @@ def beginnings(rule):
     return [as_standing(key) for key in beginning_keys(rule)]
 
 
-def following_keys(rule, key):
-    """Return the ascending list of what may follow a standing in the same silence, all as keys."""
+def staying_others(rule, others, others_answer):
+    """Return the ascending list of the pairs in which others may be in a beat, with those that come in it."""
+    pairs = with_coming(others)
+    if others_answer:
+        return pairs
+    return [pair for pair in pairs if not speaks(rule, pair)]
+
+
+def standing_steps(rule, key):
+    """Return what may come about in a beat of a silence, as a dict of the keys that follow.
+
+    Each has one of the tuples (others answer, asking, answer) that lead there: whether others answer,
+    and what the watched member hears.
+    """
     phase, state, lost, deaf, others = key
     asked = phase == 0
     watched = (state, lost)
-    answers = speaks(rule, watched)
-    pairs = with_coming(others)
-    quiet = [pair for pair in pairs if not speaks(rule, pair)]
-    choices = [(False, quiet)]
-    if len(quiet) < len(pairs):
-        choices.append((True, pairs))
     found = {}
-    for others_answer, there in choices:
-        answered = answers or others_answer
+    for others_answer in (False, True):
+        pairs = staying_others(rule, others, others_answer)
+        answered = others_answer or speaks(rule, watched)
+        if others_answer and not some_speak(rule, pairs):
+            continue
         if answered and deaf >= rule.losses:
             continue
-        behind = tuple(pairs_behind(rule, there, asked, answered))
+        behind = tuple(pairs_behind(rule, pairs, asked, answered))
         deaf_behind = deaf + 1 if answered else deaf
-        for after, count in moves(rule, watched, asked, others_answer):
-            found[((phase + 1) % rule.every, after, count, deaf_behind, behind)] = True
-    return sorted(found)
+        for asking, answer in hearings(rule, watched, asked, others_answer):
+            after, count = next_pair(rule, watched, asked, asking, answer)
+            reached = ((phase + 1) % rule.every, after, count, deaf_behind, behind)
+            found.setdefault(reached, (others_answer, asking, answer))
+    return found
+
+
+def following_keys(rule, key):
+    """Return the ascending list of what may follow a standing in the same silence, all as keys."""
+    return sorted(standing_steps(rule, key))
 
 
 def following(rule, standing):
@@ -104,49 +111,14 @@ def following(rule, standing):
     return [as_standing(key) for key in following_keys(rule, as_key(standing))]
 
 
-def all_following(rule):
+def standing_graph(rule):
     """Return a dict of what follows each standing that is a beginning or follows, all as keys."""
-    found = {}
-    waiting = beginning_keys(rule)
-    while waiting:
-        key = waiting.pop()
-        if key not in found:
-            found[key] = following_keys(rule, key)
-            waiting.extend(found[key])
-    return found
-
-
-def all_ahead(follows):
-    """Return a dict of the keys which each key follows."""
-    ahead = {key: [] for key in follows}
-    for key in follows:
-        for after in follows[key]:
-            ahead[after].append(key)
-    return ahead
-
-
-def greatest_numbers(follows):
-    """Return a dict of the greatest number of steps that go on from each key.
-
-    A key from which the steps may go on for ever is not in it: it waits for a number in vain.
-    """
-    ahead = all_ahead(follows)
-    left = {key: len(follows[key]) for key in follows}
-    ready = [key for key in follows if left[key] == 0]
-    numbers = {}
-    while ready:
-        key = ready.pop()
-        numbers[key] = max([numbers[after] + 1 for after in follows[key]], default=0)
-        for before in ahead[key]:
-            left[before] -= 1
-            if left[before] == 0:
-                ready.append(before)
-    return numbers
+    return all_following(beginning_keys(rule), lambda key: following_keys(rule, key))
 
 
 def table(rule):
     """Return the ascending list of the tuples (standing, number), or None if some number has no bound."""
-    follows = all_following(rule)
+    follows = standing_graph(rule)
     numbers = greatest_numbers(follows)
     if len(numbers) < len(follows):
         return None
@@ -187,6 +159,15 @@ def endless(rule):
 
 def stays_quiet(rule, kept, place):
     """Tell whether a member may go on to a kept place in a beat in which nobody answers."""
+    return any([behind in kept for asking, behind in quiet_steps(rule, place)])
+
+
+def quiet_steps(rule, place):
+    """Return the list of the tuples (asking, place behind) of a member in a beat in which nobody answers."""
     phase, state, lost = place
-    behind = (phase + 1) % rule.every
-    return any([(behind, after, count) in kept for after, count in moves(rule, (state, lost), phase == 0, False)])
+    asked = phase == 0
+    found = []
+    for asking, answer in hearings(rule, (state, lost), asked, False):
+        after, count = next_pair(rule, (state, lost), asked, asking, answer)
+        found.append((asking, ((phase + 1) % rule.every, after, count)))
+    return found

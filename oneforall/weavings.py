@@ -34,7 +34,7 @@ def do_beat(rule, course, beat):
     pairs = pairs_in_beat(course, comes, goes)
     check_losers(pairs, lost)
     asked = course.number % rule.every == 0
-    answering = {member: True for member in pairs if speaks(rule, pairs[member])}
+    answering = all_answering(rule, pairs)
     missed = losses_in_beat(rule, pairs, asked, answering, lost)
     deaf_behind = deaf_beats(rule, course, answering, deaf)
     behind = {}
@@ -75,6 +75,11 @@ def check_losers(pairs, lost):
     for loss in lost:
         if loss[0] not in pairs:
             raise UnknownMember(loss[0])
+
+
+def all_answering(rule, pairs):
+    """Return a dict of the members that answer, of those that have a pair."""
+    return {member: True for member in pairs if speaks(rule, pairs[member])}
 
 
 def losses_in_beat(rule, pairs, asked, answering, lost):

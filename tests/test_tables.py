@@ -3,16 +3,11 @@ import itertools
 import random
 import unittest
 
+from helpers import ALWAYS, FEW, HEARD, NEVER, STILL, WAITS, lists_in
 from oneforall.rules import Rule
 from oneforall.tables import beginnings, company, endless, following, judge, table
 from oneforall.weavings import replay
 
-ALWAYS = Rule(1, 0, [(True, 0, 0, 0, 0)])
-NEVER = Rule(1, 0, [(False, 0, 0, 0, 0)])
-WAITS = Rule(2, 1, [(False, 0, 1, 0, 0), (True, 0, 0, 0, 0)])
-STILL = Rule(1, 0, [(False, 0, 1, 0, 1), (False, 2, 2, 0, 0), (True, 0, 1, 0, 1)])
-HEARD = Rule(1, 0, [(True, 0, 0, 1, 1), (False, 1, 1, 1, 1)])
-FEW = Rule(1, 0, [(True, 0, 1, 0, 1), (False, 0, 0, 0, 2), (False, 0, 0, 0, 3), (False, 3, 3, 3, 3)])
 STAY = [(False, state, state, state, state) for state in range(1, 5)]
 
 
@@ -39,15 +34,6 @@ def drawn_rules(seed, many):
     for _ in range(many):
         states = [(draw.random() < 0.4,) + tuple(draw.randrange(4) for _ in range(4)) for _ in range(4)]
         yield Rule(draw.randint(1, 3), draw.randint(0, 1), states)
-
-
-def lists_in(thing):
-    """All lists in a value, itself too."""
-    found = [thing] if isinstance(thing, list) else []
-    if isinstance(thing, (list, tuple)):
-        for part in thing:
-            found += lists_in(part)
-    return found
 
 
 class ExampleTest(unittest.TestCase):

@@ -2,6 +2,7 @@ import copy
 import random
 import unittest
 
+from helpers import drawn_weaving
 from oneforall.errors import TooManyLost, UnknownMember
 from oneforall.rules import Rule
 from oneforall.weavings import do_beat, first_course, replay, silence_in
@@ -318,46 +319,10 @@ class RandomWeavingsTest(unittest.TestCase):
             many = draw.randint(1, 4)
             states = [(draw.random() < 0.4,) + tuple(draw.randrange(many) for _ in range(4)) for _ in range(many)]
             rule = Rule(draw.randint(1, 3), draw.randint(0, 2), states)
-            weaving, expected = self.drawn(draw, rule, 20)
+            weaving, expected = drawn_weaving(draw, rule, 20)
             self.assertEqual(replay(rule, weaving), expected)
             for member in {member for beat in weaving for member in beat[0]}:
                 self.assertEqual(silence_in(rule, weaving, member), self.silence(expected, weaving, member))
-
-    def drawn(self, draw, rule, beats):
-        there, lost, deaf_beats, fresh = {}, {}, 0, 0
-        weaving, expected = [], []
-        for number in range(beats):
-            comes = list(range(fresh, fresh + draw.choice([0, 0, 1, 2])))
-            fresh += len(comes)
-            there.update({member: 0 for member in comes})
-            lost.update({member: 0 for member in comes})
-            goes = [member for member in there if draw.random() < 0.1]
-            for member in goes:
-                del there[member]
-            answers = sorted(member for member in there if rule.states[there[member]][0])
-            deaf = draw.random() < 0.5 and (not answers or deaf_beats < rule.losses)
-            if answers:
-                deaf_beats = deaf_beats + 1 if deaf else 0
-            losses = []
-            for member in there:
-                place = 1
-                if number % rule.every == 0:
-                    if lost[member] < rule.losses and draw.random() < 0.5:
-                        lost[member] += 1
-                        losses.append((member, "asking"))
-                    else:
-                        lost[member] = 0
-                        place += 1
-                if [other for other in answers if other != member]:
-                    if draw.random() < 0.5:
-                        losses.append((member, "answer"))
-                    else:
-                        place += 2
-                there[member] = rule.states[there[member]][place]
-            draw.shuffle(losses)
-            weaving.append((comes, goes, deaf, losses))
-            expected.append((answers, bool(answers) and not deaf, sorted(there.items())))
-        return weaving, expected
 
     def silence(self, told, weaving, member):
         stay = [number for number, beat in enumerate(told) if member in dict(beat[2])]
